@@ -1,0 +1,1 @@
+"""Drawnworks: rows drawn by works that are handed in."""

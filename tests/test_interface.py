@@ -1,0 +1,109 @@
+"""Names, arguments and default values, as the document's interface lists them."""
+
+import inspect
+import unittest
+
+from drawnworks import rows, stages
+from drawnworks.rows import asked, counted, figures, grown, lined, listed, places
+from drawnworks.stages import (flat, kept, mapped, numbered, once, parcels, past, runs, scanned, skipped, taken,
+                               until, windows)
+from tests.helping import Script, told
+
+NEEDED = inspect.Parameter.empty
+ROWS = {
+    "listed": [("items", NEEDED)],
+    "counted": [("begin", NEEDED), ("step", 1), ("many", None)],
+    "asked": [("work", NEEDED)],
+    "grown": [("work", NEEDED), ("state", NEEDED)],
+    "figures": [("number", NEEDED), ("base", 10)],
+    "places": [("number", NEEDED)],
+    "lined": [("text", NEEDED)],
+}
+STAGES = {
+    "mapped": [("row", NEEDED), ("work", NEEDED)],
+    "kept": [("row", NEEDED), ("test", NEEDED)],
+    "taken": [("row", NEEDED), ("many", NEEDED)],
+    "skipped": [("row", NEEDED), ("many", NEEDED)],
+    "until": [("row", NEEDED), ("test", NEEDED)],
+    "past": [("row", NEEDED), ("test", NEEDED)],
+    "numbered": [("row", NEEDED), ("begin", 0)],
+    "flat": [("row", NEEDED)],
+    "parcels": [("row", NEEDED), ("many", NEEDED)],
+    "windows": [("row", NEEDED), ("many", NEEDED)],
+    "scanned": [("row", NEEDED), ("work", NEEDED), ("begin", NEEDED)],
+    "once": [("row", NEEDED), ("key", None)],
+    "runs": [("row", NEEDED), ("key", None)],
+}
+
+
+def numbers():
+    return listed([1, 1, 2, 3])
+
+
+class Arguments(unittest.TestCase):
+    def check(self, module, interface):
+        for name, wanted in interface.items():
+            signature = inspect.signature(getattr(module, name))
+            given = [(one.name, one.default) for one in signature.parameters.values()]
+            self.assertEqual(given, wanted, name)
+            for one in signature.parameters.values():
+                self.assertEqual(one.kind, inspect.Parameter.POSITIONAL_OR_KEYWORD, name)
+
+    def test_rows(self):
+        self.check(rows, ROWS)
+
+    def test_stages(self):
+        self.check(stages, STAGES)
+
+
+class ByName(unittest.TestCase):
+    def check(self, row, items):
+        self.assertEqual(told(row), items)
+
+    def test_rows(self):
+        self.check(listed(items=[1, 2]), [1, 2])
+        self.check(counted(many=3, step=-2, begin=4), [4, 2, 0])
+        left = [2, 1]
+        self.check(asked(work=lambda: left.pop() if left else None), [1, 2])
+        self.check(grown(state=2, work=lambda n: (n * 5, n - 1) if n else None), [10, 5])
+        self.check(figures(base=2, number=6), [0, 1, 1])
+        self.check(places(number=6), [1, 2])
+        self.check(lined(text="a\nb"), ["a", "b"])
+
+    def test_stages(self):
+        self.check(mapped(work=str, row=numbers()), ["1", "1", "2", "3"])
+        self.check(kept(test=lambda x: x > 1, row=numbers()), [2, 3])
+        self.check(taken(many=2, row=numbers()), [1, 1])
+        self.check(skipped(many=2, row=numbers()), [2, 3])
+        self.check(until(test=lambda x: x < 2, row=numbers()), [1, 1])
+        self.check(past(test=lambda x: x < 2, row=numbers()), [2, 3])
+        self.check(numbered(begin=7, row=numbers()), [(7, 1), (8, 1), (9, 2), (10, 3)])
+        self.check(flat(row=listed([[1], [2, 3]])), [1, 2, 3])
+        self.check(parcels(many=3, row=numbers()), [[1, 1, 2], [3]])
+        self.check(windows(many=3, row=numbers()), [[1, 1, 2], [1, 2, 3]])
+        self.check(scanned(begin=9, work=lambda a, b: a + b, row=numbers()), [9, 10, 11, 13, 16])
+        self.check(once(key=lambda x: x % 2, row=numbers()), [1, 2])
+        self.check(runs(key=lambda x: x > 2, row=numbers()), [[1, 1, 2], [3]])
+
+    def test_default_values(self):
+        self.check(taken(counted(5), 3), [5, 6, 7])
+        self.check(counted(5, 2, 2), [5, 7])
+        self.check(figures(120), [0, 2, 1])
+        self.check(numbered(listed(["a"])), [(0, "a")])
+        self.check(once(numbers()), [1, 2, 3])
+        self.check(runs(numbers()), [[1, 1], [2], [3]])
+
+
+class Drawn(unittest.TestCase):
+    def test_every_row_has_the_method_draw_in_its_own_class(self):
+        made = [listed([]), counted(0), asked(str), grown(str, 0), figures(1), places(1), lined("")]
+        row = Script()
+        made += [mapped(row, str), kept(row, bool), taken(row, 0), skipped(row, 0), until(row, bool), past(row, bool)]
+        made += [numbered(row), flat(row), parcels(row, 1), windows(row, 1), scanned(row, max, 0), once(row), runs(row)]
+        for one in made:
+            self.assertIn("draw", vars(type(one)))
+        self.assertEqual(row.draws, 0)
+
+
+if __name__ == "__main__":
+    unittest.main()
