@@ -21,7 +21,7 @@ class Row:
 
 
 class Source:
-    """A row that is drawn to its end by a row that may still tell something then."""
+    """A row that something is made of; once it is over it isn't drawn any more."""
 
     def __init__(self, row):
         self.row = row

@@ -1,6 +1,8 @@
 """What the tests share: rows and works that note what is done with them."""
 
-from drawnworks.errors import Over
+import unittest
+
+from drawnworks.errors import Halt, Over
 
 OVER = "<over>"
 
@@ -8,14 +10,15 @@ OVER = "<over>"
 class Script:
     """A row that tells, or refuses with, what a list says, and notes each draw."""
 
-    def __init__(self, *events, log=None):
+    def __init__(self, *events, log=None, name="draw"):
         self.events = list(events)
         self.draws = 0
         self.log = [] if log is None else log
+        self.name = name
 
     def draw(self):
         self.draws += 1
-        self.log.append("draw")
+        self.log.append(self.name)
         if self.draws > len(self.events):
             raise Over("the script is over")
         event = self.events[self.draws - 1]
@@ -66,3 +69,22 @@ def told(row):
             items.append(row.draw())
         except Over:
             return items
+
+
+def refusals():
+    """What a work may refuse with: Halt, or any error of another kind."""
+    return [Halt("why"), KeyError("k"), StopIteration(3), ValueError("v"), IndexError(), ZeroDivisionError(),
+            AttributeError("a"), RuntimeError("r"), LookupError()]
+
+
+class RowCase(unittest.TestCase):
+    def check(self, row, wanted):
+        """Each draw comes to the wanted thing, then to Over, again and again.
+
+        A refusal comes out as the very error that is wanted."""
+        for one in wanted + [OVER, OVER, OVER]:
+            found = outcome(row)
+            if isinstance(one, Exception):
+                self.assertIs(found, one)
+            else:
+                self.assertEqual(found, one)

@@ -3,11 +3,15 @@
 import inspect
 import unittest
 
-from drawnworks import rows, stages
+from drawnworks import rows, several, sharing, stages, trying
+from drawnworks.errors import Halt
 from drawnworks.rows import asked, counted, figures, grown, lined, listed, places
+from drawnworks.several import chained, in_turn, merged, pairs
+from drawnworks.sharing import Memory, split
 from drawnworks.stages import (flat, kept, mapped, numbered, once, parcels, past, runs, scanned, skipped, taken,
                                until, windows)
-from tests.helping import Script, told
+from drawnworks.trying import again, instead, limited, watched
+from tests.helping import Script, outcome, told
 
 NEEDED = inspect.Parameter.empty
 ROWS = {
@@ -34,6 +38,27 @@ STAGES = {
     "once": [("row", NEEDED), ("key", None)],
     "runs": [("row", NEEDED), ("key", None)],
 }
+SEVERAL = {
+    "pairs": [("one", NEEDED), ("other", NEEDED)],
+    "chained": [("rows", NEEDED)],
+    "in_turn": [("rows", NEEDED)],
+    "merged": [("one", NEEDED), ("other", NEEDED), ("key", NEEDED)],
+}
+SHARING = {
+    "split": [("row", NEEDED), ("many", 2)],
+    "Memory": [("row", NEEDED)],
+}
+MEMORY = {
+    "item": [("self", NEEDED), ("number", NEEDED)],
+    "drawn": [("self", NEEDED)],
+    "replay": [("self", NEEDED)],
+}
+TRYING = {
+    "watched": [("row", NEEDED), ("note", NEEDED)],
+    "again": [("row", NEEDED), ("times", 1)],
+    "instead": [("row", NEEDED), ("other", NEEDED)],
+    "limited": [("row", NEEDED), ("most", NEEDED)],
+}
 
 
 def numbers():
@@ -54,6 +79,17 @@ class Arguments(unittest.TestCase):
 
     def test_stages(self):
         self.check(stages, STAGES)
+
+    def test_several(self):
+        self.check(several, SEVERAL)
+
+    def test_sharing(self):
+        self.check(sharing, SHARING)
+        self.check(Memory, MEMORY)
+        self.assertIsInstance(Memory, type)
+
+    def test_trying(self):
+        self.check(trying, TRYING)
 
 
 class ByName(unittest.TestCase):
@@ -85,6 +121,25 @@ class ByName(unittest.TestCase):
         self.check(once(key=lambda x: x % 2, row=numbers()), [1, 2])
         self.check(runs(key=lambda x: x > 2, row=numbers()), [[1, 1, 2], [3]])
 
+    def test_several(self):
+        self.check(pairs(other=listed([5]), one=numbers()), [(1, 5)])
+        self.check(chained(rows=[listed([5]), listed([6])]), [5, 6])
+        self.check(in_turn(rows=[listed([5, 7]), listed([6])]), [5, 6, 7])
+        self.check(merged(key=lambda x: -x, other=listed([5]), one=numbers()), [5, 1, 1, 2, 3])
+
+    def test_sharing(self):
+        for row in split(many=3, row=numbers()):
+            self.check(row, [1, 1, 2, 3])
+        memory = Memory(row=numbers())
+        self.assertEqual((memory.item(number=2), memory.drawn()), (2, 3))
+        self.check(memory.replay(), [1, 1, 2, 3])
+
+    def test_trying(self):
+        self.check(watched(note=lambda word, x: None, row=numbers()), [1, 1, 2, 3])
+        self.check(again(times=3, row=Script(Halt(1), Halt(2), Halt(3), 4)), [4])
+        self.check(instead(other=listed([5]), row=Script(1, Halt(2))), [1, 5])
+        self.check(limited(most=9, row=numbers()), [1, 1, 2, 3])
+
     def test_default_values(self):
         self.check(taken(counted(5), 3), [5, 6, 7])
         self.check(counted(5, 2, 2), [5, 7])
@@ -92,6 +147,8 @@ class ByName(unittest.TestCase):
         self.check(numbered(listed(["a"])), [(0, "a")])
         self.check(once(numbers()), [1, 2, 3])
         self.check(runs(numbers()), [[1, 1], [2], [3]])
+        self.assertEqual(len(split(numbers())), 2)
+        self.assertEqual(outcome(again(Script(Halt(1), Halt(2), 3))).tries, 2)
 
 
 class Drawn(unittest.TestCase):
@@ -100,6 +157,8 @@ class Drawn(unittest.TestCase):
         row = Script()
         made += [mapped(row, str), kept(row, bool), taken(row, 0), skipped(row, 0), until(row, bool), past(row, bool)]
         made += [numbered(row), flat(row), parcels(row, 1), windows(row, 1), scanned(row, max, 0), once(row), runs(row)]
+        made += [pairs(row, row), chained([row]), in_turn([row]), merged(row, row, str), Memory(row).replay()]
+        made += split(row, 9) + [watched(row, str), again(row), instead(row, row), limited(row, 0)]
         for one in made:
             self.assertIn("draw", vars(type(one)))
         self.assertEqual(row.draws, 0)

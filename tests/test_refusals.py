@@ -6,28 +6,12 @@ import unittest
 from drawnworks.errors import Halt
 from drawnworks.stages import (flat, kept, mapped, numbered, once, parcels, past, runs, scanned, skipped, taken,
                                until, windows)
-from tests.helping import OVER, Noting, Script, outcome, outcomes
+from tests.helping import Noting, RowCase, Script, outcome, outcomes, refusals
 
 HALT = Halt("tea")
 
 
-def refusals():
-    return [Halt("why"), KeyError("k"), StopIteration(3), ValueError("v"), IndexError(), ZeroDivisionError(),
-            AttributeError("a"), RuntimeError("r"), LookupError()]
-
-
-class RefusalCase(unittest.TestCase):
-    def check(self, row, wanted):
-        """Each draw comes to the wanted thing; a refusal comes out as the very error."""
-        for one in wanted + [OVER, OVER]:
-            found = outcome(row)
-            if isinstance(one, Exception):
-                self.assertIs(found, one)
-            else:
-                self.assertEqual(found, one)
-
-
-class OfTheRow(RefusalCase):
+class OfTheRow(RowCase):
     """The row within refuses, and goes on."""
 
     def test_all_rows_of_one(self):
@@ -81,7 +65,7 @@ class OfTheRow(RefusalCase):
             self.check(runs(Script(1, no)), [no, [1]])
 
 
-class OfAWork(RefusalCase):
+class OfAWork(RowCase):
     """A work refuses: what was drawn for the item is gone, and the row goes on."""
 
     def test_mapped(self):
@@ -194,7 +178,7 @@ def model_of_skipped(events, many):
     return told
 
 
-class AllShortRows(RefusalCase):
+class AllShortRows(RowCase):
     """Each row of at most six events, two items and a refusal, against a model."""
 
     def each(self):
