@@ -47,10 +47,15 @@ def at_least(number, least):
 
 
 def key_of(x, key):
-    """The key of x, as it is now: x itself if there is no work for it."""
+    """The key of x, as it is now."""
+    return as_it_is(key_itself(x, key))
+
+
+def key_itself(x, key):
+    """key(x), or x itself if there is no work for it."""
     if key is None:
-        return as_it_is(x)
-    return as_it_is(key(x))
+        return x
+    return key(x)
 
 
 def as_it_is(key):
@@ -72,19 +77,29 @@ def is_plain(key, deep=8):
 
 
 class Keys:
-    """Keys of any kind. Plain ones stand apart, since they are found much faster."""
+    """Keys of any kind, each at its place, from 0, in the order in which they came.
+
+    Plain ones stand apart, since they are found much faster."""
 
     def __init__(self):
         self.plain = {}
         self.others = []
+        self.places_of_others = []
 
     def knows(self, key):
         if is_plain(key):
             return key in self.plain
         return key in self.others
 
-    def learn(self, key):
+    def place(self, key):
         if is_plain(key):
-            self.plain[key] = True
+            return self.plain[key]
+        return self.places_of_others[self.others.index(key)]
+
+    def learn(self, key):
+        new_place = len(self.plain) + len(self.others)
+        if is_plain(key):
+            self.plain[key] = new_place
         else:
             self.others.append(key)
+            self.places_of_others.append(new_place)

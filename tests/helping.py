@@ -57,6 +57,23 @@ def outcome(row):
         return error
 
 
+def come_of(end, row):
+    """What an end of a row tells, OVER, or the very error that comes out of it."""
+    try:
+        return end(row)
+    except Over:
+        return OVER
+    except Exception as error:
+        return error
+
+
+def shown(come):
+    """What a draw comes to, so that two errors that say the same are alike."""
+    if isinstance(come, Exception):
+        return (type(come).__name__, str(come), vars(come))
+    return come
+
+
 def outcomes(row, many):
     return [outcome(row) for _ in range(many)]
 

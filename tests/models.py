@@ -1,12 +1,14 @@
 """Slow models of rows, by which the true ones are checked.
 
 A model is a generator without end. It tells what each draw comes to: ("item", x),
-("no", error), or ENDED, which it tells for ever from then on.
+("no", error), or ENDED, which it tells for ever from then on. A model of an end takes
+such a row, and is refused by raising Refusal around the error.
 """
 
+import functools
 import itertools
 
-from drawnworks.errors import Halt, NoMore, Tired
+from drawnworks.errors import Halt, NoMore, Over, Tired
 
 ENDED = ("over",)
 
@@ -273,3 +275,71 @@ def of_limited(row, most):
             yield from ended()
     while True:
         yield ("no", Tired(most))
+
+
+class Refusal(Exception):
+    pass
+
+
+def value(come):
+    if come[0] == "no":
+        raise Refusal(come[1])
+    return come[1]
+
+
+def items_of(row):
+    for come in row:
+        if come == ENDED:
+            return
+        yield value(come)
+
+
+def by_work(row, work):
+    """(x, what the work told of it), for each item."""
+    for x in items_of(row):
+        yield x, value(done(work, x))
+
+
+def end_fold(row, work, begin):
+    return functools.reduce(lambda so_far, x: value(done(work, so_far, x)), items_of(row), begin)
+
+
+def end_everything(row):
+    return list(items_of(row))
+
+
+def end_each(row, work):
+    return len(list(by_work(row, work)))
+
+
+def end_count(row):
+    return len(list(items_of(row)))
+
+
+def end_first(row, test, other):
+    return next((x for x, so in by_work(row, test) if so), other)
+
+
+def end_any_so(row, test):
+    return any(so for _, so in by_work(row, test))
+
+
+def end_all_so(row, test):
+    return all(so for _, so in by_work(row, test))
+
+
+def end_least(row, key):
+    marks = [(mark, at, x) for at, (x, mark) in enumerate(by_work(row, key))]
+    if not marks:
+        raise Refusal(Over())
+    return sorted(marks, key=lambda one: one[:2])[0][2]
+
+
+def end_tally(row, key):
+    marks = [mark for _, mark in by_work(row, key)]
+    return [(mark, marks.count(mark)) for at, mark in enumerate(marks) if mark not in marks[:at]]
+
+
+def end_parted(row, test):
+    told = list(by_work(row, test))
+    return [x for x, so in told if so], [x for x, so in told if not so]

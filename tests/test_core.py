@@ -20,6 +20,13 @@ class PlainKeys(unittest.TestCase):
         for key in ([], {}, (1, []), object(), nested(9, 1), nested(3, [])):
             self.assertFalse(is_plain(key), key)
 
+    def test_places_in_the_order_in_which_they_came(self):
+        keys = Keys()
+        learnt = [[], 0, "a", [0], nested(9, 1), None, {"a": 1}, nested(8, 1)]
+        for key in learnt:
+            keys.learn(key)
+        self.assertEqual([keys.place(key) for key in learnt], list(range(8)))
+
     def test_both_are_known_behind_being_learnt_alone(self):
         keys = Keys()
         for key in (0, "a", [], [0], nested(8, 1), nested(9, 1), {"a": 1}):

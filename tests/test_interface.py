@@ -3,8 +3,11 @@
 import inspect
 import unittest
 
-from drawnworks import rows, several, sharing, stages, trying
-from drawnworks.errors import Halt
+from drawnworks import ends, errors, notes, plans, rows, several, sharing, stages, trying
+from drawnworks.ends import all_so, any_so, columns, count, each, everything, first, fold, least, parted, tally
+from drawnworks.errors import BadPlan, BadText, Halt, NoMore, NoWork, Tired
+from drawnworks.notes import read, written
+from drawnworks.plans import made, shorter
 from drawnworks.rows import asked, counted, figures, grown, lined, listed, places
 from drawnworks.several import chained, in_turn, merged, pairs
 from drawnworks.sharing import Memory, split
@@ -59,6 +62,35 @@ TRYING = {
     "instead": [("row", NEEDED), ("other", NEEDED)],
     "limited": [("row", NEEDED), ("most", NEEDED)],
 }
+ENDS = {
+    "fold": [("row", NEEDED), ("work", NEEDED), ("begin", 0)],
+    "everything": [("row", NEEDED)],
+    "each": [("row", NEEDED), ("work", NEEDED)],
+    "count": [("row", NEEDED)],
+    "first": [("row", NEEDED), ("test", None), ("other", None)],
+    "any_so": [("row", NEEDED), ("test", NEEDED)],
+    "all_so": [("row", NEEDED), ("test", NEEDED)],
+    "least": [("row", NEEDED), ("key", None)],
+    "tally": [("row", NEEDED), ("key", None)],
+    "parted": [("row", NEEDED), ("test", NEEDED)],
+    "columns": [("row", NEEDED), ("sides", NEEDED), ("gap", " ")],
+}
+PLANS = {
+    "made": [("plan", NEEDED), ("row", NEEDED), ("works", NEEDED)],
+    "shorter": [("plan", NEEDED)],
+}
+NOTES = {
+    "written": [("plan", NEEDED)],
+    "read": [("text", NEEDED)],
+}
+ERRORS = {
+    "Halt": [("why", NEEDED)],
+    "Tired": [("most", NEEDED)],
+    "NoMore": [("tries", NEEDED)],
+    "BadPlan": [("at", NEEDED)],
+    "NoWork": [("name", NEEDED)],
+    "BadText": [("row", NEEDED)],
+}
 
 
 def numbers():
@@ -90,6 +122,16 @@ class Arguments(unittest.TestCase):
 
     def test_trying(self):
         self.check(trying, TRYING)
+
+    def test_ends(self):
+        self.check(ends, ENDS)
+
+    def test_plans_and_notes(self):
+        self.check(plans, PLANS)
+        self.check(notes, NOTES)
+
+    def test_errors(self):
+        self.check(errors, ERRORS)
 
 
 class ByName(unittest.TestCase):
@@ -140,6 +182,31 @@ class ByName(unittest.TestCase):
         self.check(instead(other=listed([5]), row=Script(1, Halt(2))), [1, 5])
         self.check(limited(most=9, row=numbers()), [1, 1, 2, 3])
 
+    def test_ends(self):
+        self.assertEqual(fold(begin=5, work=lambda so_far, x: so_far * x, row=numbers()), 30)
+        self.assertEqual(everything(row=numbers()), [1, 1, 2, 3])
+        self.assertEqual(each(work=str, row=numbers()), 4)
+        self.assertEqual(count(row=numbers()), 4)
+        self.assertEqual(first(other=9, test=lambda x: x > 1, row=numbers()), 2)
+        self.assertEqual(first(other=9, test=lambda x: x > 5, row=numbers()), 9)
+        self.assertIs(any_so(test=lambda x: x > 2, row=numbers()), True)
+        self.assertIs(all_so(test=lambda x: x > 2, row=numbers()), False)
+        self.assertEqual(least(key=lambda x: -x, row=numbers()), 3)
+        self.assertEqual(tally(key=lambda x: x % 2, row=numbers()), [(1, 3), (0, 1)])
+        self.assertEqual(parted(test=lambda x: x > 1, row=numbers()), ([2, 3], [1, 1]))
+        self.assertEqual(columns(gap="-", sides="l0", row=listed([["a", "1"], ["bb", "22"]])), "a -01\nbb-22")
+
+    def test_plans_and_notes(self):
+        plan = [("map", "text"), ("take", 2), ("take", 3)]
+        self.check(made(works={"text": str}, row=numbers(), plan=plan), ["1", "1"])
+        self.assertEqual(shorter(plan=plan), [("map", "text"), ("take", 2)])
+        self.assertEqual(written(plan=plan), "map text\ntake 2\ntake 3")
+        self.assertEqual(read(text="map text\ntake 2\ntake 3"), plan)
+
+    def test_errors(self):
+        self.assertEqual((Halt(why=1).why, Tired(most=2).most, NoMore(tries=3).tries), (1, 2, 3))
+        self.assertEqual((BadPlan(at=4).at, NoWork(name="a").name, BadText(row=5).row), (4, "a", 5))
+
     def test_default_values(self):
         self.check(taken(counted(5), 3), [5, 6, 7])
         self.check(counted(5, 2, 2), [5, 7])
@@ -149,17 +216,25 @@ class ByName(unittest.TestCase):
         self.check(runs(numbers()), [[1, 1], [2], [3]])
         self.assertEqual(len(split(numbers())), 2)
         self.assertEqual(outcome(again(Script(Halt(1), Halt(2), 3))).tries, 2)
+        self.assertEqual(fold(numbers(), lambda so_far, x: so_far + x), 7)
+        self.assertEqual(first(numbers()), 1)
+        self.assertIsNone(first(listed([])))
+        self.assertEqual(least(listed([3, 1, 2])), 1)
+        self.assertEqual(tally(numbers()), [(1, 2), (2, 1), (3, 1)])
+        self.assertEqual(columns(listed([["a", "b"]]), "ll"), "a b")
 
 
 class Drawn(unittest.TestCase):
     def test_every_row_has_the_method_draw_in_its_own_class(self):
-        made = [listed([]), counted(0), asked(str), grown(str, 0), figures(1), places(1), lined("")]
+        found = [listed([]), counted(0), asked(str), grown(str, 0), figures(1), places(1), lined("")]
         row = Script()
-        made += [mapped(row, str), kept(row, bool), taken(row, 0), skipped(row, 0), until(row, bool), past(row, bool)]
-        made += [numbered(row), flat(row), parcels(row, 1), windows(row, 1), scanned(row, max, 0), once(row), runs(row)]
-        made += [pairs(row, row), chained([row]), in_turn([row]), merged(row, row, str), Memory(row).replay()]
-        made += split(row, 9) + [watched(row, str), again(row), instead(row, row), limited(row, 0)]
-        for one in made:
+        found += [mapped(row, str), kept(row, bool), taken(row, 0), skipped(row, 0), until(row, bool), past(row, bool)]
+        found += [numbered(row), flat(row), parcels(row, 1), windows(row, 1), scanned(row, max, 0), once(row)]
+        found += [runs(row)]
+        found += [pairs(row, row), chained([row]), in_turn([row]), merged(row, row, str), Memory(row).replay()]
+        found += split(row, 9) + [watched(row, str), again(row), instead(row, row), limited(row, 0)]
+        found += [made(plan, row, {"a": str}) for plan in ([], [("map", "a")], [("skip", 0)], [("once",)])]
+        for one in found:
             self.assertIn("draw", vars(type(one)))
         self.assertEqual(row.draws, 0)
 

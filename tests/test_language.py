@@ -36,6 +36,12 @@ def names_bound(tree):
     return names + [node.arg for node in of_kind(tree, ast.arg)]
 
 
+def names_at_module_level(tree):
+    """What a file defines: functions, classes and values, but for its imports."""
+    names = [node.name for node in tree.body if isinstance(node, (ast.FunctionDef, ast.ClassDef))]
+    return names + [target.id for node in tree.body if isinstance(node, ast.Assign) for target in node.targets]
+
+
 class Rules(unittest.TestCase):
     def setUp(self):
         self.texts = {path.name: path.read_text("utf-8") for path in FOLDER.glob("*.py")}
@@ -56,7 +62,7 @@ class Rules(unittest.TestCase):
         for where, node in self.each_node(ast.ImportFrom):
             self.assertRegex(node.module, r"\Adrawnworks\.[a-z]+\Z", where)
             self.assertEqual(node.level, 0, where)
-            own = [one.name for one in self.trees[node.module.split(".")[1] + ".py"].body if hasattr(one, "name")]
+            own = names_at_module_level(self.trees[node.module.split(".")[1] + ".py"])
             for one in node.names:
                 self.assertIn(one.name, own, where)
 
@@ -138,6 +144,14 @@ class Rules(unittest.TestCase):
         for where, node in self.each_node(ast.Attribute):
             if any(hasattr(kind, node.attr) for kind in BUILTIN_KINDS) and node.attr not in DOUBLE:
                 self.assertIn(node.attr, METHODS, where)
+
+    def test_l25_methods_are_called_where_they_stand(self):
+        methods = METHODS | {one.name for _, node in self.each_node(ast.ClassDef) for one in node.body
+                             if isinstance(one, ast.FunctionDef)}
+        called = [node.func for _, node in self.each_node(ast.Call)]
+        for where, node in self.each_node(ast.Attribute):
+            if node.attr in methods:
+                self.assertIn(node, called, where)
 
 
 if __name__ == "__main__":

@@ -3,15 +3,18 @@
 import random
 import unittest
 
-from drawnworks import several, sharing, stages, trying
+from drawnworks import ends, several, sharing, stages, trying
+from drawnworks.ends import columns, count, everything, first, fold, least, tally
 from drawnworks.errors import Halt, NoMore, Over, Tired
+from drawnworks.notes import read
+from drawnworks.plans import made
 from drawnworks.rows import asked, counted, listed
 from drawnworks.several import chained, in_turn, merged, pairs
 from drawnworks.sharing import Memory, split
 from drawnworks.stages import kept, mapped, parcels, skipped, taken
 from drawnworks.trying import again, instead, limited, watched
 from tests import models
-from tests.helping import OVER, Noting, RowCase, Script, outcome, outcomes
+from tests.helping import OVER, Noting, RowCase, Script, outcome, outcomes, shown
 
 HALT = Halt("tea")
 
@@ -55,6 +58,25 @@ OF_TWO = {
     "merged": lambda kit, one, other, work: kit["merged"](one, other, work(lambda x: signs(x) % 5)),
     "instead": lambda kit, one, other, work: kit["instead"](one, other),
 }
+PLANS = [[("keep", "work"), ("number", 3), ("take", 4)],
+         [("past", "work"), ("window", 2), ("skip", 1), ("once",)],
+         [("until", "work"), ("parcel", 2), ("map", "work")]]
+
+
+def by_plan(row, work, n):
+    return made(PLANS[n], row, {"work": work(is_so), "none": None})
+
+
+def model_by_plan(row, work, n):
+    test = work(is_so)
+    if n == 0:
+        return models.of_taken(models.of_numbered(models.of_kept(row, test), 3), 4)
+    if n == 1:
+        return models.of_once(models.of_skipped(models.of_windows(models.of_past(row, test), 2), 1), lambda x: x)
+    return models.of_mapped(models.of_parcels(models.of_until(row, test), 2), test)
+
+
+OF_ONE["made"] = lambda kit, row, work, n: kit["made"](row, work, n)
 SHARED = {
     "split": lambda kit, row: kit["split"](row, 2),
     "memory": lambda kit, row: kit["memory"](row),
@@ -65,7 +87,20 @@ MODULES = {"mapped": stages, "kept": stages, "taken": stages, "skipped": stages,
            "watched": trying, "again": trying, "limited": trying, "instead": trying, "split": sharing,
            "pairs": several, "chained": several, "in_turn": several, "merged": several}
 TRUE_KIT = {name: getattr(module, name) for name, module in MODULES.items()} | {"memory": two_replays}
-MODEL_KIT = {name: getattr(models, "of_" + name) for name in TRUE_KIT}
+MODEL_KIT = {name: getattr(models, "of_" + name) for name in TRUE_KIT} | {"made": model_by_plan}
+TRUE_KIT["made"] = by_plan
+ENDS = {
+    "fold": lambda end, row, work, n: end(row, work(lambda so_far, x: signs(so_far, x) % 9), n),
+    "everything": lambda end, row, work, n: end(row),
+    "each": lambda end, row, work, n: end(row, work(is_so)),
+    "count": lambda end, row, work, n: end(row),
+    "first": lambda end, row, work, n: end(row, work(is_so), n),
+    "any_so": lambda end, row, work, n: end(row, work(lambda x: not is_so(x))),
+    "all_so": lambda end, row, work, n: end(row, work(is_so)),
+    "least": lambda end, row, work, n: end(row, work(lambda x: signs(x) % 5)),
+    "tally": lambda end, row, work, n: end(row, work(lambda x: [signs(x) % 3, "a"])),
+    "parted": lambda end, row, work, n: end(row, work(is_so)),
+}
 
 
 class Builder:
@@ -123,12 +158,21 @@ class Builder:
             one, other = self.row(deep - 1), self.row(deep - 1)
         return OF_TWO[name](self.kit, one, other, self.work)
 
+    def end(self, row):
+        """What an end of the row comes to, with the end's name."""
+        name = self.chance.choice(list(ENDS))
+        end = getattr(models, "end_" + name) if self.kit is MODEL_KIT else getattr(ends, name)
+        n = self.chance.randrange(5)
+        try:
+            return name, ENDS[name](end, row, self.work, n)
+        except models.Refusal as refusal:
+            return name, without_words(refusal.args[0])
+        except Exception as error:
+            return name, without_words(error)
 
-def shown(come):
-    """What a draw comes to, so that two errors that say the same are alike."""
-    if isinstance(come, Exception):
-        return (type(come).__name__, str(come), vars(come))
-    return come
+
+def without_words(error):
+    return shown(OVER if isinstance(error, Over) else error)
 
 
 class AgainstModels(unittest.TestCase):
@@ -143,6 +187,67 @@ class AgainstModels(unittest.TestCase):
                 wanted = OVER if come == models.ENDED else come[1]
                 self.assertEqual(shown(outcome(row)), shown(wanted), seed)
                 self.assertEqual(true.log, model.log, seed)
+
+
+    def test_ends_at_the_outside_of_all_sorts_of_rows(self):
+        for seed in range(4000):
+            true, model = Builder(TRUE_KIT, seed), Builder(MODEL_KIT, seed)
+            row, row_of_model = true.row(seed % 5 + 1), model.row(seed % 5 + 1)
+            # A Tired row refuses for ever, so that a few ends are drawn and no more.
+            for _ in range(6):
+                self.assertEqual(true.end(row), model.end(row_of_model), seed)
+                self.assertEqual(true.log, model.log, seed)
+
+
+class EndsByHand(RowCase):
+    def test_over_rows_of_all_modules(self):
+        letters = mapped(listed(["fig", "pear", "fig", "plum"]), lambda x: [x, str(len(x))])
+        one, other = split(letters)
+        self.assertEqual(columns(one, "l0", ": "), "fig : 3\npear: 4\nfig : 3\nplum: 4")
+        self.assertEqual(tally(other, lambda x: x[0]), [("fig", 2), ("pear", 1), ("plum", 1)])
+
+    def test_refused_in_between_and_tried_again(self):
+        work = Noting(lambda x: x * 10, {1: HALT, 2: HALT, 4: HALT})
+        row = again(mapped(counted(1, 1, 8), work), 1)
+        with self.assertRaises(NoMore):
+            everything(row)
+        self.assertEqual(everything(row), [40, 60, 70, 80])
+
+    def test_a_memory_under_several_ends(self):
+        script = Script(4, 2, HALT, 9, 2)
+        memory = Memory(script)
+        with self.assertRaises(Halt):
+            count(memory.replay())
+        self.assertEqual(memory.drawn(), 2)
+        self.assertEqual(least(memory.replay()), 2)
+        self.assertEqual(fold(memory.replay(), lambda so_far, x: so_far + x), 17)
+        self.assertEqual(first(memory.replay(), lambda x: x > 4), 9)
+        self.assertEqual(script.draws, 6)
+
+    def test_a_plan_that_is_read_and_made_over_rows_that_refuse(self):
+        plan = read("keep even\nnumber 5\nparcel 2\ntake 2")
+        script = Script(1, 2, HALT, 4, 6, 8, 10)
+        row = instead(made(plan, script, {"even": lambda x: x % 2 == 0}), listed(["gone on"]))
+        self.assertEqual(everything(row), ["gone on"])
+        script = Script(1, 2, HALT, 4, 6, 8, 10)
+        row = again(made(plan, script, {"even": lambda x: x % 2 == 0}))
+        self.assertEqual(everything(row), [[(5, 2), (6, 4)], [(7, 6), (8, 8)]])
+        self.assertEqual(script.draws, 6)
+
+    def test_tired_rows(self):
+        row = chained([taken(counted(1), 2), limited(counted(5), 2)])
+        for _ in range(3):
+            with self.assertRaises(Tired):
+                everything(row)
+
+    def test_watched_under_an_end_that_stops_early(self):
+        note = Noting(lambda word, x: None)
+        row = watched(merged(listed([1, 4]), listed([2, 3]), lambda x: x), note)
+        self.assertEqual(first(row, lambda x: x > 1), 2)
+        self.assertEqual(note.calls, [("ask", None), ("item", 1), ("ask", None), ("item", 2)])
+        self.assertEqual(count(row), 2)
+        self.assertEqual(note.calls[4:], [("ask", None), ("item", 3), ("ask", None), ("item", 4), ("ask", None),
+                                          ("over", None)])
 
 
 class ByHand(RowCase):
